@@ -1,0 +1,1 @@
+"""Rowsathome: a small database whose rows live in houses."""
