@@ -1,6 +1,14 @@
 """What stands where in a SCHEMA, and the errors for numbers and strings that stand nowhere."""
 
-from rowsathome.errors import NoColumn, NoSheet, Unfit
+from rowsathome.errors import NoColumn, NoSheet, NoWord, Unfit
+
+WORDS = ("sum", "number", "least", "greatest")
+
+
+def need_word(word):
+    """Raise NoWord if this string is no WORD."""
+    if word not in WORDS:
+        raise NoWord(word)
 
 
 def column_sheets(schema):
@@ -28,6 +36,27 @@ def need_columns_of(schema, number, names):
     need_columns(schema, names)
     if not all([name in schema[number][0] for name in names]):
         raise Unfit()
+
+
+def need_columns_chosen(schema, question, names):
+    """Raise NoColumn or Unfit if names are not all COLUMNS of chosen SHEETS."""
+    need_columns(schema, names)
+    sheets = column_sheets(schema)
+    if not all([sheets[name] in question[0] for name in names]):
+        raise Unfit()
+
+
+def need_chosen(schema, question, numbers):
+    """Raise NoSheet or Unfit if these are not all numbers of chosen SHEETS."""
+    for number in numbers:
+        need_sheet(schema, number)
+    if not all([number in question[0] for number in numbers]):
+        raise Unfit()
+
+
+def places_of(columns, some):
+    """Return the tuple of the places that some have among these COLUMNS."""
+    return tuple([columns.index(name) for name in some])
 
 
 def picked(columns, row, some):

@@ -22,6 +22,11 @@ def is_name(thing):
     return all(["a" <= letter <= "z" for letter in thing])
 
 
+def are_names(things):
+    """Tell whether all these things, of a list or a tuple, are NAMES."""
+    return all([is_name(part) for part in things])
+
+
 def is_tuple_of(thing, many):
     """Tell whether thing is a tuple of so many members."""
     return isinstance(thing, tuple) and len(thing) == many

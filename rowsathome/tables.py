@@ -1,10 +1,9 @@
 """TABLES of a SCHEMA: whether they keep it, their ROWS, DEEDS in them, MEETINGS and answers."""
 
-from rowsathome.errors import NoWord, Unfit
-from rowsathome.lookups import need_columns_of, need_sheet, picked, put_at
-from rowsathome.shapes import frozen, is_name, is_number, is_set_of, is_tuple_of
-
-WORDS = ("sum", "number", "least", "greatest")
+from rowsathome.errors import Unfit
+from rowsathome.lookups import need_columns_of, need_sheet, need_word, picked, put_at
+from rowsathome.met import all_lots, all_meetings, gathered, seen_at, spots_of
+from rowsathome.shapes import are_names, frozen, is_number, is_set_of, is_tuple_of
 
 
 def is_row(schema, number, thing):
@@ -16,12 +15,8 @@ def is_row(schema, number, thing):
 def _fits_row(schema, number, thing):
     many = len(schema[number][0])
     if number > 0:
-        return is_tuple_of(thing, many) and _are_names(thing)
-    return is_tuple_of(thing, many + 1) and _are_names(thing[:many]) and is_number(thing[many])
-
-
-def _are_names(things):
-    return all([is_name(part) for part in things])
+        return is_tuple_of(thing, many) and are_names(thing)
+    return is_tuple_of(thing, many + 1) and are_names(thing[:many]) and is_number(thing[many])
 
 
 def is_tables(schema, thing):
@@ -80,9 +75,10 @@ def broken_references(schema, tables):
     schema, tables = frozen(schema), frozen(tables)
     broken = []
     for number, sheet in enumerate(schema):
-        for reference in sheet[3]:
-            if not all([_found_by(schema, tables, sheet[0], row, reference) for row in tables[number]]):
-                broken.append((number, reference[0]))
+        for other, names, key in sheet[3]:
+            there = {picked(schema[other][0], mate, key): True for mate in tables[other]}
+            if not all([picked(sheet[0], row, names) in there for row in tables[number]]):
+                broken.append((number, other))
     return tuple(sorted(broken))
 
 
@@ -200,45 +196,7 @@ def deeds_to(schema, one, other):
 
 def meetings(schema, tables, question):
     """Return the ascending list of the MEETINGS of this QUESTION."""
-    return _meetings(frozen(schema), frozen(tables), frozen(question))
-
-
-def _meetings(schema, tables, question):
-    chosen, links, _ = question
-    found = [()]
-    for many in range(len(chosen)):
-        found = _lengthened(schema, tables, chosen[:many + 1], links, found)
-    return found
-
-
-def _lengthened(schema, tables, chosen, links, starts):
-    """Return starts, each with each place in the last chosen SHEET at which LINKS to the others hold."""
-    ties = _ties(schema, chosen, links)
-    places = {}
-    for place, row in enumerate(tables[chosen[-1]]):
-        places.setdefault(tuple([row[tie[2]] for tie in ties]), []).append(place)
-    longer = []
-    for start in starts:
-        wanted = tuple([tables[chosen[tie[0]]][start[tie[0]]][tie[1]] for tie in ties])
-        longer.extend([(*start, place) for place in places.get(wanted, [])])
-    return longer
-
-
-def _ties(schema, chosen, links):
-    """Return a triple for each LINK of the last chosen SHEET to one of the others.
-
-    It has the place of the other one among chosen, and the places of the COLUMNS of that one and of the last.
-    """
-    last = schema[chosen[-1]][0]
-    ties = []
-    for at, number in enumerate(chosen[:-1]):
-        columns = schema[number][0]
-        for one, other in links:
-            if one in columns and other in last:
-                ties.append((at, columns.index(one), last.index(other)))
-            elif other in columns and one in last:
-                ties.append((at, columns.index(other), last.index(one)))
-    return ties
+    return all_meetings(frozen(schema), frozen(tables), frozen(question))
 
 
 def shown(schema, tables, question, meeting):
@@ -247,7 +205,7 @@ def shown(schema, tables, question, meeting):
     meeting = frozen(meeting)
     if not _is_meeting(schema, tables, question, meeting):
         raise Unfit()
-    return _shown(schema, tables, question, meeting)
+    return seen_at(tables, question[0], meeting, spots_of(schema, question[0], question[2]))
 
 
 def _is_meeting(schema, tables, question, meeting):
@@ -256,43 +214,12 @@ def _is_meeting(schema, tables, question, meeting):
         return False
     if not all([0 <= place < len(tables[number]) for number, place in zip(chosen, meeting)]):
         return False
-    names = _names_in(schema, tables, chosen, meeting)
-    return all([names[one] == names[other] for one, other in links])
-
-
-def _names_in(schema, tables, chosen, meeting):
-    """Return a dict that has for each COLUMN of the chosen SHEETS its NAME in this MEETING."""
-    names = {}
-    for number, place in zip(chosen, meeting):
-        for column, name in zip(schema[number][0], tables[number][place]):
-            names[column] = name
-    return names
-
-
-def _shown(schema, tables, question, meeting):
-    chosen, _, groups = question
-    names = _names_in(schema, tables, chosen, meeting)
-    return tuple([names[column] for column in groups])
+    pairs = [seen_at(tables, chosen, meeting, spots_of(schema, chosen, link)) for link in links]
+    return all([one == other for one, other in pairs])
 
 
 def answer(schema, tables, question, word):
     """Return the answer of this QUESTION by this WORD."""
-    if word not in WORDS:
-        raise NoWord(word)
+    need_word(word)
     schema, tables, question = frozen(schema), frozen(tables), frozen(question)
-    worths = {}
-    for meeting in _meetings(schema, tables, question):
-        # SHEET 0 is always the first chosen one, and a worth stands behind all NAMES.
-        worth = tables[0][meeting[0]][-1]
-        worths.setdefault(_shown(schema, tables, question, meeting), []).append(worth)
-    return tuple(sorted([(names, _amount(word, worths[names])) for names in worths]))
-
-
-def _amount(word, worths):
-    if word == "sum":
-        return sum(worths)
-    if word == "number":
-        return len(worths)
-    if word == "least":
-        return min(worths)
-    return max(worths)
+    return gathered(word, [(names, worth, 1) for names, worth in all_lots(schema, tables, question)])
