@@ -1,4 +1,4 @@
-"""At the bounds of the document the answers come without a long wait. [3] [6] [7] [8]"""
+"""At the bounds of the document the answers come without a long wait. [3] [6] [7] [8] [9] [10] [11] [12]"""
 
 import time
 import unittest
@@ -44,6 +44,10 @@ QUESTIONS = (
     ((0, 1, 2, 3), (("a", "e"), ("b", "g"), ("f", "j"), ("h", "l")), ("c", "d")),
 )
 HAND = tuple((0, tuple(letter + other for other in "xyz")) for letter in "abcdefgh")
+DEALS = (
+    (("a",), ("d",), ("g",), ("j",)), (("a", "b", "c"), None, ("g", "h"), None), (("c",), None, None, ("l",)),
+    (None,) * 4,
+)
 
 
 class Bounds(Case):
@@ -94,6 +98,55 @@ class Bounds(Case):
                     paper = self.call("parting_tables", schema, question, other, word)
                     self.assertIs(paper is not None, self.call("is_parting", schema, question, other, word, paper))
             self.call("needless_links", schema, question)
+
+    def test_felt(self):
+        columns = tuple("abcdefghijkl")
+        for schema, question in self.each():
+            for word in WORDS:
+                self.call("felt_columns", schema, question, word)
+                for some in (columns, columns[1:], ("b", "e", "h", "k")):
+                    pair = self.call("parting_pair", schema, question, some, word)
+                    told = self.call("is_parting_pair", schema, question, some, word, pair)
+                    self.assertIs(pair is not None, told)
+            self.call("fixed_columns", schema, columns)
+        narrow = []
+        for at, names in enumerate(COLUMNS):
+            further = tuple((other, names[:1], COLUMNS[other][:1]) for other in range(at + 1, 4))
+            narrow.append((names[:2], (), (names[:1],), further))
+        narrow = tuple(narrow)
+        self.assertTrue(function("is_schema")(narrow))
+        for word in WORDS:
+            self.call("felt_pairs", narrow, ((0, 1, 2, 3), (), ("h",)), word)
+
+    def test_homes_and_plans(self):
+        plan = ((), ("join", ("home", ("join", 0, 1)), ("home", ("fold", ("join", 2, 3)))))
+        for schema, question in self.each():
+            for word in WORDS:
+                self.call("deals_at_home", schema, question, word)
+                for deal in DEALS:
+                    self.call("right_homes", schema, question, word, deal)
+                    least = self.call("a_least_plan", schema, question, word, deal)
+                    self.assertTrue(self.call("is_least_plan", schema, question, word, deal, least))
+                    paper = self.call("a_wrong", schema, question, word, deal, plan)
+                    told = self.call("is_wrong", schema, question, word, deal, plan, paper)
+                    self.assertIs(paper is not None, told)
+                    paper = self.call("home_paper", schema, question, word, deal)
+                    self.assertIs(paper is not None, self.call("is_home_paper", schema, question, word, deal, paper))
+            for deal in DEALS:
+                paper = self.call("groups_paper", schema, question, deal)
+                self.assertIs(paper is not None, self.call("is_groups_paper", schema, question, deal, paper))
+
+    def test_checks(self):
+        for schema in SCHEMAS:
+            for deal in DEALS:
+                for number, part in (*self.call("blind_rules", schema, deal), *self.call("blind_keys", schema, deal)):
+                    spot = self.call("a_blind_spot", schema, deal, number, part)
+                    self.assertTrue(self.call("is_blind_spot", schema, deal, number, part, spot))
+                for number, other in self.call("unfair_references", schema, deal):
+                    alarm = self.call("a_false_alarm", schema, deal, number, other)
+                    self.assertTrue(self.call("is_false_alarm", schema, deal, number, other, alarm))
+                for number in range(4):
+                    self.call("good_deals", schema, deal, number)
 
 
 if __name__ == "__main__":
