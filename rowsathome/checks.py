@@ -6,7 +6,7 @@ from rowsathome.deals import is_dealing, is_paper_pair
 from rowsathome.dealt import are_dealt_alike, dealt_names, homes_in, houses_with, rows_of_house
 from rowsathome.errors import Unfit
 from rowsathome.hands import name_of, row_hand, with_places
-from rowsathome.lookups import need_sheet, picked, put_at
+from rowsathome.lookups import need_sheet, others_of, picked, put_at
 from rowsathome.shapes import frozen, is_tuple_of
 from rowsathome.tables import broken_keys, broken_rules, is_tables, keeps
 from rowsathome.unfolding import leads_among, pictured
@@ -145,13 +145,8 @@ def is_fair(schema, deal, number, other):
 def _need_reference(schema, number, other):
     need_sheet(schema, number)
     need_sheet(schema, other)
-    if other not in _others(schema, number):
+    if other not in others_of(schema, number):
         raise Unfit()
-
-
-def _others(schema, number):
-    """Return the list of the SHEETS to which this one has REFERENCES, in their order."""
-    return [reference[0] for reference in schema[number][3]]
 
 
 def _unfair_rows(schema, deal, number, other):
@@ -159,7 +154,7 @@ def _unfair_rows(schema, deal, number, other):
     if deal[other] is None:
         return None
     rows, _ = pictured(schema, row_hand(schema, number))
-    place = leads_among(schema, rows)[0][_others(schema, number).index(other)]
+    place = leads_among(schema, rows)[0][others_of(schema, number).index(other)]
     if deal[number] is not None and are_dealt_alike(schema, deal, [rows[0], rows[place]]):
         return None
     return rows, place
@@ -168,7 +163,7 @@ def _unfair_rows(schema, deal, number, other):
 def unfair_references(schema, deal):
     """Return the ascending list of the pairs (number, other) of the REFERENCES that are not fair."""
     schema, deal = frozen(schema), frozen(deal)
-    pairs = [(number, other) for number in range(len(schema)) for other in _others(schema, number)]
+    pairs = [(number, other) for number in range(len(schema)) for other in others_of(schema, number)]
     return [(number, other) for number, other in pairs if _unfair_rows(schema, deal, number, other) is not None]
 
 
@@ -202,7 +197,7 @@ def is_false_alarm(schema, deal, number, other, thing):
 
 def _referred_place(schema, tables, number, row, other):
     """Return the place of the ROW of the SHEET other to which this ROW, of TABLES that keep the SCHEMA, refers."""
-    _, names, key = schema[number][3][_others(schema, number).index(other)]
+    _, names, key = schema[number][3][others_of(schema, number).index(other)]
     wanted = picked(schema[number][0], row, names)
     return [picked(schema[other][0], mate, key) for mate in tables[other]].index(wanted)
 

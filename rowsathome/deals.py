@@ -2,7 +2,7 @@
 
 from rowsathome.dealt import are_dealt_alike, homes_in, houses_with, is_dealt_in, rows_of_house, scattered
 from rowsathome.errors import NoHouse
-from rowsathome.hands import meeting_hand, second_hand, with_ones, with_places
+from rowsathome.hands import meeting_hand, picture_of_two, with_ones, with_places
 from rowsathome.lookups import need_word
 from rowsathome.met import all_meetings, gathered, seen_at, spots_of
 from rowsathome.shapes import are_names, frozen, is_number, is_set_of, is_tuple_of
@@ -126,9 +126,8 @@ def groups_at_home(schema, question, deal):
 
 def _scattered_groups(schema, question, deal):
     """Return ROWS of the PICTURE of two MEETINGS that show the same if they are not dealt alike, otherwise None."""
-    hand = (*meeting_hand(schema, question), *second_hand(schema, question, question[2], question[0]))
-    rows, places = pictured(schema, hand)
-    return None if are_dealt_alike(schema, deal, [rows[place] for place in places]) else rows
+    rows, first, second = picture_of_two(schema, question, question[2])
+    return None if are_dealt_alike(schema, deal, [rows[place] for place in (*first, *second)]) else rows
 
 
 def home_paper(schema, question, word, deal):

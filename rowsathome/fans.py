@@ -64,11 +64,11 @@ def _rows_without_way(schema, question, some):
 
 def _rows_with_two_ways(schema, question, some):
     """Return the ROWS of the PICTURE of two MEETINGS with the same PART if they are two there, otherwise None."""
-    rows, first, second = _picture_of_both(schema, question, some)
+    rows, first, second = picture_of_both(schema, question, some)
     return None if first == second else rows
 
 
-def _picture_of_both(schema, question, some):
+def picture_of_both(schema, question, some):
     """Return the ROWS of the PICTURE of two MEETINGS with the same PART, and the places of the ROWS of both."""
     chosen = question[0]
     columns = [column for number in some for column in schema[number][0]]
@@ -118,7 +118,7 @@ def told_by(schema, question, some):
 
 
 def _told_by(schema, question, some):
-    _, first, second = _picture_of_both(schema, question, some)
+    _, first, second = picture_of_both(schema, question, some)
     return tuple([number for number, one, other in zip(question[0], first, second) if one == other])
 
 

@@ -39,6 +39,18 @@ def second_hand(schema, question, some, numbers):
     return tuple([(number, tuple([names[column] for column in schema[number][0]])) for number in numbers])
 
 
+def picture_of_two(schema, question, some):
+    """Return the ROWS of the PICTURE of two MEETINGS with the same at some, and the places of the ROWS of both."""
+    rows, places = pictured(schema, two_hand(schema, question, some))
+    many = len(question[0])
+    return rows, places[:many], places[many:]
+
+
+def two_hand(schema, question, some):
+    """Return the HAND of two MEETINGS that have the same at some."""
+    return (*meeting_hand(schema, question), *second_hand(schema, question, some, question[0]))
+
+
 def _linked(schema, chosen, links):
     """Return a dict that has for each COLUMN of chosen SHEETS one that stands for all that LINKS join with it."""
     mates = {column: column for number in chosen for column in schema[number][0]}
@@ -72,7 +84,8 @@ def tables_from(schema, rows, worths):
     tables = [[] for _ in schema]
     for at, row in enumerate(rows):
         tables[row[0]].append(row_with(row, worths[at]))
-    return tuple([tuple(sorted(part)) for part in tables])
+    # Two ROWS of SHEET 0 that no KEY has made one are one all the same if their worths are.
+    return tuple([tuple(sorted(set(part))) for part in tables])
 
 
 def with_places(schema, rows):

@@ -54,6 +54,11 @@ def need_chosen(schema, question, numbers):
         raise Unfit()
 
 
+def others_of(schema, number):
+    """Return the list of the SHEETS to which this one has REFERENCES, in their order."""
+    return [reference[0] for reference in schema[number][3]]
+
+
 def places_of(columns, some):
     """Return the tuple of the places that some have among these COLUMNS."""
     return tuple([columns.index(name) for name in some])

@@ -4,7 +4,7 @@ The SCHEMAS may be wider than those of the document, as those of unfolding.py ma
 """
 
 from rowsathome.hands import meeting_hand
-from rowsathome.unfolding import leads_among, marks_at, pictured, ways_among
+from rowsathome.unfolding import leads_among, marks_at, pictured, reached_places, ways_among
 
 
 def parting_rows(schema, one, other, word):
@@ -40,7 +40,7 @@ def _unlike_counts(schema, rows, one, other):
     A MEETING stands where its own ROWS do and those to which they lead. If less ROWS tell nothing, and just these ROWS
     are needed by more MEETINGS of the one QUESTION than of the other, their numbers are unlike there.
     """
-    reached = _reached_places(leads_among(schema, rows))
+    reached = reached_places(leads_among(schema, rows))
     counts = {}
     for question, step in ((one, 1), (other, -1)):
         for way in ways_among(schema, rows, question):
@@ -49,18 +49,3 @@ def _unlike_counts(schema, rows, one, other):
             counts[lot] = counts.get(lot, 0) + step
     unlike = [(len(lot[0]), lot[0]) for lot in counts if counts[lot] != 0]
     return tuple([rows[place] for place in min(unlike)[1]]) if unlike else None
-
-
-def _reached_places(leads):
-    """Return for each place the list of itself and of all places to which it leads, step by step."""
-    return [_reached_from(leads, at) for at in range(len(leads))]
-
-
-def _reached_from(leads, start):
-    reached, ahead = [], [start]
-    while ahead:
-        at = ahead.pop()
-        if at not in reached:
-            reached.append(at)
-            ahead.extend(leads[at])
-    return reached

@@ -112,14 +112,15 @@ def leading_to(schema, tables, number, row):
     return _reached(schema, tables, (number, row), _referring_to)
 
 
-def _need_row(schema, number, row):
+def need_row(schema, number, row):
+    """Raise NoSheet or Unfit if row is no ROW of the SHEET with this number."""
     need_sheet(schema, number)
     if not _fits_row(schema, number, row):
         raise Unfit()
 
 
 def _need_standing(schema, tables, number, row):
-    _need_row(schema, number, row)
+    need_row(schema, number, row)
     if row not in tables[number]:
         raise Unfit()
 
@@ -172,7 +173,7 @@ def after_all(schema, tables, deeds):
 
 def _behind(schema, tables, deed):
     what, number, row = deed
-    _need_row(schema, number, row)
+    need_row(schema, number, row)
     rows = [mate for mate in tables[number] if mate != row]
     if what == "put":
         rows.append(row)

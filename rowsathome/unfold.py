@@ -5,9 +5,10 @@ from rowsathome.hands import (
     marks_of_columns,
     meeting_hand,
     named,
+    picture_of_two,
     row_hand,
     row_with,
-    second_hand,
+    two_hand,
     with_places,
 )
 from rowsathome.lookups import need_columns_chosen, need_sheet, places_of
@@ -124,11 +125,7 @@ def hand_of_two(schema, question, some):
     """Return the HAND of two MEETINGS of this QUESTION that have the same at some COLUMNS."""
     schema, question, some = frozen(schema), frozen(question), frozen(some)
     need_columns_chosen(schema, question, some)
-    return named(_two(schema, question, some))
-
-
-def _two(schema, question, some):
-    return (*meeting_hand(schema, question), *second_hand(schema, question, some, question[0]))
+    return named(two_hand(schema, question, some))
 
 
 def is_equal(schema, question, column, other):
@@ -151,7 +148,7 @@ def equal_columns(schema, question):
 def settled(schema, question, some):
     """Return the set of the COLUMNS in which two MEETINGS with the same in some have the same, FOR ALL TABLES."""
     schema, question, some = frozen(schema), frozen(question), frozen(some)
-    rows, first, second = _picture_of_two(schema, question, some)
+    rows, first, second = _two_with(schema, question, some)
     columns = sorted(columns_chosen(schema, question))
     one, other = marks_at(schema, rows, question, first, columns), marks_at(schema, rows, question, second, columns)
     return tuple([column for column, mark, mate in zip(columns, one, other) if mark == mate])
@@ -160,22 +157,19 @@ def settled(schema, question, some):
 def settled_rows(schema, question, some):
     """Return the set of the SHEETS of which two MEETINGS with the same in some have one ROW, FOR ALL TABLES."""
     schema, question, some = frozen(schema), frozen(question), frozen(some)
-    _, first, second = _picture_of_two(schema, question, some)
+    _, first, second = _two_with(schema, question, some)
     return tuple([number for number, one, other in zip(question[0], first, second) if one == other])
 
 
-def _picture_of_two(schema, question, some):
-    """Return the ROWS of the PICTURE of two MEETINGS, and the places of the ROWS of the one and of the other."""
+def _two_with(schema, question, some):
     need_columns_chosen(schema, question, some)
-    rows, places = pictured(schema, _two(schema, question, some))
-    many = len(question[0])
-    return rows, places[:many], places[many:]
+    return picture_of_two(schema, question, some)
 
 
 def apart(schema, question, some):
     """Return TABLES that have no more alike than two MEETINGS with the same in some, and these two MEETINGS."""
     schema, question, some = frozen(schema), frozen(question), frozen(some)
-    rows, first, second = _picture_of_two(schema, question, some)
+    rows, first, second = _two_with(schema, question, some)
     tables = with_places(schema, rows)
     return tables, _meeting_there(rows, tables, first), _meeting_there(rows, tables, second)
 

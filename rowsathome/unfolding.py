@@ -193,6 +193,21 @@ def _led_from(schema, found, row):
     return [found[(other, key, picked(columns, marks, names))] for other, names, key in references]
 
 
+def reached_places(leads):
+    """Return for each place the list of itself and of all places to which it leads, step by step."""
+    return [_reached_from(leads, at) for at in range(len(leads))]
+
+
+def _reached_from(leads, start):
+    reached, ahead = [], [start]
+    while ahead:
+        at = ahead.pop()
+        if at not in reached:
+            reached.append(at)
+            ahead.extend(leads[at])
+    return reached
+
+
 def ways_among(schema, rows, question):
     """Return the ascending list of the MEETINGS in these ROWS of a PICTURE, each with places among these ROWS."""
     places = [[at for at, row in enumerate(rows) if row[0] == number] for number in range(len(schema))]

@@ -138,6 +138,48 @@ INTERFACE = {
         "is_false_alarm": ("schema", "deal", "number", "other", "thing"),
         "good_deals": ("schema", "deal", "number"),
     },
+    "commits": {
+        "kinds": ("schema",),
+        "is_let_now": ("schema", "tables", "one"),
+        "at_once": ("schema", "tables", "deeds"),
+        "breaking_pairs": ("schema", "tables", "deeds"),
+        "are_apart": ("schema", "deal", "dealing", "one", "other"),
+        "is_calm": ("schema", "deal", "kind", "mate"),
+        "waits": ("schema", "deal"),
+        "a_clash": ("schema", "deal", "kind", "mate"),
+        "is_clash": ("schema", "deal", "kind", "mate", "thing"),
+    },
+    "kept": {
+        "lots_of": ("schema", "tables", "question", "deed"),
+        "is_unmoved": ("schema", "question", "word", "kind"),
+        "unmoved_kinds": ("schema", "question", "word"),
+        "moved_paper": ("schema", "question", "word", "kind"),
+        "is_moved_paper": ("schema", "question", "word", "kind", "thing"),
+        "is_kept": ("schema", "question", "word", "kind", "beside"),
+        "kept_kinds": ("schema", "question", "word", "beside"),
+        "kept_paper": ("schema", "question", "word", "kind", "beside"),
+        "is_kept_paper": ("schema", "question", "word", "kind", "beside", "thing"),
+        "is_by_row": ("schema", "question", "word", "kind"),
+        "row_paper": ("schema", "question", "word", "kind"),
+        "is_row_paper": ("schema", "question", "word", "kind", "thing"),
+        "renewed": ("schema", "question", "word", "kind", "kept", "numbers", "lots"),
+        "row_answer": ("schema", "question", "word", "deed"),
+    },
+    "joins": {
+        "changed_by": ("schema", "first", "one"),
+        "are_changed_apart": ("schema", "first", "one", "other"),
+        "merged": ("schema", "first", "one", "other"),
+        "merged_all": ("schema", "first", "copies"),
+        "stands_against": ("schema", "kind", "rival"),
+        "kinds_beside": ("schema", "mine"),
+        "merges_keep": ("schema", "mine", "its"),
+        "merge_paper": ("schema", "mine", "its"),
+        "is_merge_paper": ("schema", "mine", "its", "thing"),
+        "do_add": ("schema", "question", "first", "one", "other"),
+        "adds_up": ("schema", "question", "mine", "its"),
+        "adds_paper": ("schema", "question", "mine", "its"),
+        "is_adds_paper": ("schema", "question", "mine", "its", "thing"),
+    },
 }
 
 MODULE_OF = {name: module for module, names in INTERFACE.items() for name in names}
@@ -500,13 +542,44 @@ def standing(schema, tables, chosen, meeting, deal, dealing):
     return tuple(house for house in range(dealing[0]) if all(home in (None, house) for home in homes))
 
 
-def stands_against(schema, number, part, one, other):
+def breaks_part(schema, number, part, one, other):
     """Tell whether these two ROWS of this SHEET stand against a RULE or a KEY."""
     is_rule = len(part) == 2 and isinstance(part[0], tuple)
     few = part[0] if is_rule else part
     if has(schema, number, one, few) != has(schema, number, other, few):
         return False
     return has(schema, number, one, [part[1]]) != has(schema, number, other, [part[1]]) if is_rule else one != other
+
+
+def done(tables, deeds):
+    """Return the TABLES behind these DEEDS, done at once."""
+    behind = [set(rows) for rows in tables]
+    for what, number, row in deeds:
+        if what == "take":
+            behind[number].discard(row)
+    for what, number, row in deeds:
+        if what == "put":
+            behind[number].add(row)
+    return tuple(tuple(sorted(rows)) for rows in behind)
+
+
+def goes(schema, tables, deed):
+    """Tell whether this DEED goes in these TABLES, that may keep the SCHEMA or not."""
+    behind = done(tables, (deed,))
+    return behind != tables and plainly_keeps(schema, tables) and plainly_keeps(schema, behind)
+
+
+def all_kinds(schema):
+    return [(what, number) for what in ("put", "take") for number in range(len(schema))]
+
+
+def every_deed(schema, kind, names=("a", "b"), worths=(1, -2)):
+    """Return the list of all DEEDS of this KIND with these names and worths."""
+    what, number = kind
+    rows = [tuple(row) for row in itertools.product(names, repeat=len(schema[number][0]))]
+    if number == 0:
+        rows = [(*row, worth) for row in rows for worth in worths]
+    return [(what, number, row) for row in rows]
 
 
 def spelled(mark):

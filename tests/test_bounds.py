@@ -1,4 +1,4 @@
-"""At the bounds of the document the answers come without a long wait. [3] [6] [7] [8] [9] [10] [11] [12]"""
+"""At the bounds of the document the answers come without a long wait. [3] [6] to [15]"""
 
 import time
 import unittest
@@ -147,6 +147,48 @@ class Bounds(Case):
                     self.assertTrue(self.call("is_false_alarm", schema, deal, number, other, alarm))
                 for number in range(4):
                     self.call("good_deals", schema, deal, number)
+
+    def test_commits(self):
+        for schema in SCHEMAS:
+            kinds = function("kinds")(schema)
+            for deal in DEALS:
+                waits = self.call("waits", schema, deal)
+                for kind in kinds:
+                    for mate in kinds:
+                        clash = self.call("a_clash", schema, deal, kind, mate)
+                        self.assertIs(clash is None, (min(kind, mate), max(kind, mate)) not in waits)
+                        self.assertIs(clash is not None, self.call("is_clash", schema, deal, kind, mate, clash))
+
+    def test_kept(self):
+        for schema, question in self.each():
+            for word in WORDS:
+                unmoved, by_number = self.call("unmoved_kinds", schema, question, word), []
+                for beside in (False, True):
+                    by_number.append(self.call("kept_kinds", schema, question, word, beside))
+                for kind in function("kinds")(schema):
+                    paper = self.call("moved_paper", schema, question, word, kind)
+                    self.assertIs(kind not in unmoved, self.call("is_moved_paper", schema, question, word, kind, paper))
+                    for beside, kept in zip((False, True), by_number):
+                        paper = self.call("kept_paper", schema, question, word, kind, beside)
+                        told = self.call("is_kept_paper", schema, question, word, kind, beside, paper)
+                        self.assertIs(kind not in kept, told)
+                    paper = self.call("row_paper", schema, question, word, kind)
+                    told = self.call("is_row_paper", schema, question, word, kind, paper)
+                    self.assertIs(paper is not None, told)
+
+    def test_joins(self):
+        for schema, question in self.each():
+            kinds = function("kinds")(schema)
+            puts, takes = tuple(kinds[:4]), tuple(kinds[4:])
+            mixed = tuple(sorted((*puts[:2], *takes[2:])))
+            for mine in (puts, takes, mixed):
+                self.call("kinds_beside", schema, mine)
+                for its in (puts, takes, mixed):
+                    paper = self.call("merge_paper", schema, mine, its)
+                    self.assertIs(paper is not None, self.call("is_merge_paper", schema, mine, its, paper))
+                    paper = self.call("adds_paper", schema, question, mine, its)
+                    told = self.call("is_adds_paper", schema, question, mine, its, paper)
+                    self.assertIs(paper is not None, told)
 
 
 if __name__ == "__main__":

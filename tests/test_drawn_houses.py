@@ -5,9 +5,9 @@ import random
 import unittest
 
 from helping import (
-    WORDS, Case, amounts, drawn_question, function, has, in_house, kept_small_tables, plain_answer, plain_lots,
-    plain_meetings, plainly_keeps, row_house, small_schema, small_tables, some_deal, some_dealing, some_of, some_schema,
-    some_tables, standing, stands_against,
+    WORDS, Case, amounts, breaks_part, drawn_question, function, has, in_house, kept_small_tables, plain_answer,
+    plain_lots, plain_meetings, plainly_keeps, row_house, small_schema, small_tables, some_deal, some_dealing, some_of,
+    some_schema, some_tables, standing,
 )
 
 
@@ -350,7 +350,7 @@ def all_plans(schema, question):
 
 def plainly_unseen(schema, tables, deal, dealing, number, part):
     """Tell whether all HOUSES keep, though two ROWS stand against a RULE or a KEY."""
-    if not any(stands_against(schema, number, part, *pair) for pair in itertools.combinations(tables[number], 2)):
+    if not any(breaks_part(schema, number, part, *pair) for pair in itertools.combinations(tables[number], 2)):
         return False
     return all(plainly_keeps(schema, in_house(schema, tables, deal, dealing, house)) for house in range(dealing[0]))
 
