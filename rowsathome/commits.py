@@ -5,7 +5,7 @@ from itertools import combinations
 from rowsathome.deals import house_of, is_dealing
 from rowsathome.dealt import are_dealt_alike, dealt_names
 from rowsathome.errors import Unfit
-from rowsathome.hands import row_hand, row_with, with_places
+from rowsathome.hands import row_hand, row_with, two_rows_hand, with_places
 from rowsathome.lookups import others_of, picked, put_at
 from rowsathome.shapes import frozen, is_tuple_of
 from rowsathome.tables import after, is_deed, is_tables, keeps, need_row
@@ -116,8 +116,7 @@ def _unlike_rows(schema, deal, number, few, told):
     """
     columns, _, _, references = schema[number]
     bare = put_at(schema, number, (columns, (), (), references))
-    mate = tuple([column if column in few else (column,) for column in columns])
-    rows, (one, other) = pictured(bare, ((number, columns), (number, mate)))
+    rows, (one, other) = pictured(bare, two_rows_hand(bare, number, few))
     if picked(columns, rows[one][1], told) == picked(columns, rows[other][1], told):
         return None
     if deal[number] is not None and are_dealt_alike(schema, deal, [rows[one], rows[other]]):

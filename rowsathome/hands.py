@@ -39,6 +39,14 @@ def second_hand(schema, question, some, numbers):
     return tuple([(number, tuple([names[column] for column in schema[number][0]])) for number in numbers])
 
 
+def two_rows_hand(schema, number, few):
+    """Return the HAND of two ROWS of this SHEET that have the same in few, and unlike names elsewhere."""
+    columns = schema[number][0]
+    # No name of the first ROW is a tuple.
+    mate = tuple([column if column in few else (column,) for column in columns])
+    return ((number, columns), (number, mate))
+
+
 def picture_of_two(schema, question, some):
     """Return the ROWS of the PICTURE of two MEETINGS with the same at some, and the places of the ROWS of both."""
     rows, places = pictured(schema, two_hand(schema, question, some))

@@ -42,11 +42,12 @@ def broken_rules(schema, tables):
     schema, tables = frozen(schema), frozen(tables)
     broken = []
     for sheet, rows in zip(schema, tables):
-        broken.extend([rule for rule in sheet[1] if _breaks_rule(sheet[0], rows, rule)])
+        broken.extend([rule for rule in sheet[1] if breaks_rule(sheet[0], rows, rule)])
     return tuple(sorted(broken))
 
 
-def _breaks_rule(columns, rows, rule):
+def breaks_rule(columns, rows, rule):
+    """Tell whether two of these ROWS, of a SHEET with these COLUMNS, stand against a pair (few, one)."""
     few, one = rule
     place = columns.index(one)
     told = {}
@@ -62,11 +63,12 @@ def broken_keys(schema, tables):
     broken = []
     for number, sheet in enumerate(schema):
         rows = tables[number]
-        broken.extend([(number, key) for key in sheet[2] if _breaks_key(sheet[0], rows, key)])
+        broken.extend([(number, key) for key in sheet[2] if breaks_key(sheet[0], rows, key)])
     return tuple(sorted(broken))
 
 
-def _breaks_key(columns, rows, key):
+def breaks_key(columns, rows, key):
+    """Tell whether two of these ROWS, of a SHEET with these COLUMNS, have the same in key."""
     return len(set([picked(columns, row, key) for row in rows])) < len(rows)
 
 
@@ -204,12 +206,13 @@ def shown(schema, tables, question, meeting):
     """Return the tuple of the NAMES that this MEETING shows at GROUPS."""
     schema, tables, question = frozen(schema), frozen(tables), frozen(question)
     meeting = frozen(meeting)
-    if not _is_meeting(schema, tables, question, meeting):
+    if not is_meeting(schema, tables, question, meeting):
         raise Unfit()
     return seen_at(tables, question[0], meeting, spots_of(schema, question[0], question[2]))
 
 
-def _is_meeting(schema, tables, question, meeting):
+def is_meeting(schema, tables, question, meeting):
+    """Tell whether this tuple of numbers is a MEETING of this QUESTION."""
     chosen, links, _ = question
     if len(meeting) != len(chosen):
         return False

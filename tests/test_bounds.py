@@ -1,9 +1,10 @@
-"""At the bounds of the document the answers come without a long wait. [3] [6] to [15]"""
+"""At the bounds of the document the answers come without a long wait. [3] [6] to [19]"""
 
 import time
 import unittest
 
-from helping import WORDS, Case, function
+from helping import WORDS, Case, function, spelled
+from rowsathome.board import Board
 
 COLUMNS = (("a", "b", "c"), ("d", "e", "f"), ("g", "h", "i"), ("j", "k", "l"))
 # A wait that is long: far more than any of these calls needs.
@@ -189,6 +190,79 @@ class Bounds(Case):
                     paper = self.call("adds_paper", schema, question, mine, its)
                     told = self.call("is_adds_paper", schema, question, mine, its, paper)
                     self.assertIs(paper is not None, told)
+
+    def promises(self, schema, question):
+        for word in WORDS:
+            yield ("unfelt", question, ("b", "e"), word)
+            yield ("out", question, (3,), word)
+            for deal in DEALS:
+                yield ("told", question, word, deal)
+        yield ("plan", question, "least", DEALS[0], ((), ("join", ("home", ("join", 0, 1)), ("fold", ("join", 2, 3)))))
+        yield ("settles", question, ("a", "d"), 3)
+        yield ("equal", question, "a", "l")
+        yield ("rule", (("j",), "l"))
+        yield ("key", 0, ("a", "b", "c"))
+        yield ("least", question, (0, 2))
+        yield ("most", question, (1,))
+        yield ("same", question, QUESTIONS[1], "sum")
+        for deal in DEALS:
+            yield ("groups", question, deal)
+            yield ("fair", deal, 0, 3)
+            yield ("enough", deal, 1, schema[1][2][0])
+            yield ("calm", deal, ("put", 0), ("take", 3))
+
+    def test_promises(self):
+        for schema, question in self.each():
+            if not set(question[2]) & set(COLUMNS[3]):
+                promises = tuple(self.promises(schema, question))
+                for promise in promises:
+                    self.assertTrue(self.call("is_promise", schema, promise), promise)
+                    paper = self.call("a_paper", schema, promise)
+                    self.assertIs(paper is None, self.call("holds", schema, promise))
+                    self.assertIs(paper is not None, self.call("is_paper", schema, promise, paper))
+                    if paper is None and promise[0] not in ("told", "unfelt", "groups"):
+                        self.call("stands_on", schema, promise)
+                self.call("what_falls", schema, ("reference", (0, 1)), promises)
+
+    def test_a_board_with_sixty_deeds(self):
+        for schema in SCHEMAS:
+            start = time.monotonic()
+            board = Board(schema, DEALS[0], 3)
+            rows = ("same", "same", "same")
+            for number in (3, 2, 1):
+                board.put(number, rows)
+            board.put(0, (*rows, 1))
+            for at, name in enumerate("abcd"):
+                board.keep(name, QUESTIONS[at % 3], WORDS[at])
+            while len(board) < 58:
+                board.send((spelled(len(board)),), len(board) % 2)
+                board.part(DEALS[len(board) % 4])
+                board.commit((("take", 0, (*rows, 1)), ("put", 0, (*rows, 1))))
+                for name in ("right", "at_home", "changed", "astray", "waits"):
+                    getattr(board, name)()
+                for name in "abcd":
+                    self.assertTrue(board.answer(name))
+                    board.by_houses(name)
+            mate = board.twin()
+            for _ in range(len(board)):
+                mate.undo()
+            self.assertEqual(Board(schema, DEALS[0], 3), mate)
+            self.assertLess(time.monotonic() - start, SECONDS)
+
+    def test_texts_of_sixty_lines(self):
+        for schema in SCHEMAS:
+            text = self.call("schema_text", schema)
+            self.assertEqual(schema, self.call("read_schema", text))
+            deeds = tuple(("put", at % 4, ("abcdefgh", "abcdefgh", spelled(at), *((10 ** 30,) if at % 4 == 0 else ())))
+                          for at in range(60))
+            self.assertEqual(deeds, self.call("read_deeds", schema, self.call("deeds_text", deeds)))
+            lines = ["put 3 a a a", "put 2 a a a", "put 1 a a a", "put 0 a a a 1", "keep a sum 0 1 2 3 / - / -"]
+            lines += ["waits", "right", "home", "astray", "changed", "houses a"] * 8
+            text = "\n".join(lines[:53]) + "\nundo" * 7
+            self.assertEqual(60, len(self.call("replies", schema, DEALS[0], 3, text)))
+        sheets = "\n".join(f"{spelled(at)} / *>{spelled(at)} / * / -" for at in range(60))
+        self.assertEqual(60, len(self.call("read_schema", sheets)))
+        self.call("read_dealing", "3 / " + " ".join(f"{spelled(at)}:1" for at in range(26)))
 
 
 if __name__ == "__main__":

@@ -4,7 +4,7 @@ import importlib
 import inspect
 import unittest
 
-from helping import INTERFACE, error
+from helping import BOARD, INTERFACE, error
 
 BASES = {
     "NoColumn": (LookupError, "name"),
@@ -84,6 +84,16 @@ class Interface(unittest.TestCase):
             for name, arguments in names.items():
                 told = getattr(importlib.import_module("rowsathome." + module), name)
                 self.assertEqual(arguments, tuple(inspect.signature(told).parameters), name)
+
+    def test_the_board_and_its_methods(self):
+        board = importlib.import_module("rowsathome.board").Board
+        self.assertTrue(inspect.isclass(board))
+        self.assertEqual("rowsathome.board", board.__module__)
+        self.assertEqual(("schema", "deal", "houses"), tuple(inspect.signature(board).parameters))
+        for name, arguments in BOARD.items():
+            self.assertIn(name, vars(board), name)
+            self.assertEqual(("self", *arguments), tuple(inspect.signature(vars(board)[name]).parameters), name)
+        self.assertTrue({"__init__", "__len__", "__eq__"} <= set(vars(board)))
 
 
 if __name__ == "__main__":
