@@ -40,7 +40,16 @@ def read_number(word):
     # No 0 stands ahead of other digits, and 0 has no sign.
     if digits[0] == "0" and word != "0":
         return None
-    return int(word)
+    return -_worth_of(digits) if word.startswith("-") else _worth_of(digits)
+
+
+def _worth_of(digits):
+    """Return the number that has these digits, however many: Python itself reads some thousands at most."""
+    start = len(digits) % 64
+    number = int("0" + digits[:start])
+    for at in range(start, len(digits), 64):
+        number = number * 10 ** 64 + int(digits[at:at + 64])
+    return number
 
 
 def read_names(word):

@@ -65,6 +65,13 @@ class Requests(Case):
             if number == 0:
                 self.refuses("BadLine", {"number": 2}, "replies", SHOP, BY_NAME, 1, f"deeds\nundo\n{line}\nlook")
 
+    def test_numbers_of_any_length(self):
+        for many in (63, 64, 65, 128, 5000):
+            digits = "9" * many
+            self.is_such("is_request", SHOP, things=(f"sheet {digits}", f"send a -{digits}", f"take 0 a b c {digits}"))
+            for line in (f"sheet 0{digits}", f"house 0 -0{digits}", f"put 0 a b c {digits}-", f"put {digits} a b"):
+                self.gives(False, "is_request", SHOP, line)
+
     def test_things(self):
         for thing in (*STRANGE, ["undo"], ("undo",), ("put", 2, ("a", "b")), ["put 2 a b"]):
             self.gives(False, "is_request", SHOP, thing)

@@ -205,7 +205,7 @@ class Promises(Case):
                     self.assertEqual(tuple(standing[at]), function("stands_on")(schema, promise))
                 else:
                     self.refuses("CanNot", {}, "stands_on", schema, promise)
-        self.assertGreater(fallen, 30)
+        self.assertGreater(fallen, 15)
 
     def test_with_more_pieces(self):
         """What holds goes on to hold, and a PAPER was one, as PIECES come."""

@@ -64,6 +64,13 @@ class Written(Case):
             self.gives(text, "dealing_text", dealing)
             self.gives(dealing, "read_dealing", text)
 
+    def test_numbers(self):
+        for many in (1, 2, 17, 63, 64, 65, 127, 128, 129, 390):
+            for number in (10 ** many, 10 ** many - 1, -10 ** many, 7 - 10 ** many, 12345678901 ** (many // 11)):
+                deeds = (("take", 0, ("a", "b", "c", number)),)
+                self.gives(f"take 0 a b c {number}", "deeds_text", deeds)
+                self.gives(deeds, "read_deeds", SHOP, f"take 0 a b c {number}")
+
     def test_deeds(self):
         deed = ("put", 0, ("a", "b", "c", -1))
         for deeds, text in (
