@@ -46,9 +46,7 @@ def _read_request(schema, line):
     """Return the pair of the word of this request and the tuple of what stands behind it, None if it is none."""
     if line in ALONE:
         return (line, ())
-    word, sign, rest = line.partition(" ")
-    if not sign:
-        return None
+    word, _, rest = line.partition(" ")
     members = _read_members(schema, word, line, rest)
     return None if members is None or None in members else (word, members)
 
@@ -65,9 +63,9 @@ def _read_members(schema, word, line, rest):
         return _read_keep(schema, rest)
     if word in NAMED:
         return (read_name(rest),)
-    words = rest.split(" ")
-    if word == "sheet" and len(words) == 1:
+    if word == "sheet":
         return (read_number(rest),)
+    words = rest.split(" ")
     if word == "house" and len(words) == 2:
         return (read_number(words[0]), read_number(words[1]))
     if word == "send" and len(words) == 2:

@@ -33,18 +33,14 @@ def _is_sheet(schema, thing):
     return is_number(thing) and 0 <= thing < len(schema)
 
 
-def _is_one_in(names, thing):
-    return isinstance(thing, str) and thing in names
-
-
 def _is_set_in(names, thing):
-    return is_set_of(thing, lambda part: _is_one_in(names, part))
+    return is_set_of(thing, lambda part: part in names)
 
 
 def _fits_rule(schema, rule):
     if not is_tuple_of(rule, 2):
         return False
-    return any([_is_one_in(sheet[0], rule[1]) and _is_set_in(sheet[0], rule[0]) for sheet in schema])
+    return any([rule[1] in sheet[0] and _is_set_in(sheet[0], rule[0]) for sheet in schema])
 
 
 def _fits_deal(schema, word, members):
@@ -93,10 +89,10 @@ def _fits_columns(schema, word, members):
     question, one, other = members
     columns = [column for number in question[0] for column in schema[number][0]]
     if word == "equal":
-        return _is_one_in(columns, one) and _is_one_in(columns, other)
+        return one in columns and other in columns
     if not _is_set_in(columns, one):
         return False
-    return _is_one_in(columns, other) or (is_number(other) and other in question[0])
+    return other in columns or (is_number(other) and other in question[0])
 
 
 def _fits_homes(schema, members):

@@ -106,17 +106,16 @@ def _read_set(columns, word):
 
 
 def _read_rule(columns, word):
-    few, sign, one = word.partition(">")
+    few, _, one = word.partition(">")
     some = _read_set(columns, few)
-    return (some, one) if sign and some is not None and one in columns else None
+    return (some, one) if some is not None and one in columns else None
 
 
 def _read_reference(columns, word):
     """Return the REFERENCE with just this word, from some of these COLUMNS to whatever key, or None."""
-    before, sign, rest = word.partition(":")
-    here, mark, there = rest.partition("=")
-    if not sign or not mark:
-        return None
+    # Where a sign is missing, what ought to stand behind it is empty, and no NAMES are.
+    before, _, rest = word.partition(":")
+    here, _, there = rest.partition("=")
     number, names, key = read_number(before), read_names(here), read_names(there)
     if number is None or number < 0 or key is None or not is_ascending(key):
         return None
@@ -211,10 +210,9 @@ def _read_dealing_part(piece, part):
 
 
 def _read_told(word):
-    """Return the pair of NAMES and a HOUSE with just this word, or None."""
+    """Return the pair of NAMES and a HOUSE with just this word, with None for what is not well written."""
     before, _, after = word.partition(":")
-    names, house = read_names(before), read_number(after)
-    return None if names is None or house is None else (names, house)
+    return (read_names(before), read_number(after))
 
 
 def read_deeds(schema, text):

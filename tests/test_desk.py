@@ -57,6 +57,8 @@ class Requests(Case):
             "house 0 -0", "house  0"]
         lines += ["answer", "answer ", "answer a b", "answer A", "houses", "houses a b", "houses 0", "answer -",
             "answer *"]
+        lines += ["look a 0", "sends a 1", "look 0", "look 0 0", "look a", "look - - -", "look put 2 a b", "sheet a 0",
+            "undo a 0"]
         self.is_not_such("is_request", SHOP, things=lines)
         for line in lines:
             number = line.count("\n")

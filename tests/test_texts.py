@@ -114,6 +114,8 @@ class Wrong(Case):
         for line in lines:
             number = line.count("\n")
             self.bad_lines("read_schema", (), [(line, number), ("x / - / - / -\n" + line, number + 1)])
+            # The first of several bad lines decides, also if its REFERENCES alone are bad.
+            self.bad_lines("read_schema", (), [(f"{line}\nx", number)])
         # A COLUMN that stands ahead already; the first of several bad lines.
         self.bad_lines("read_schema", (),
             [("a b / - / - / -\nb c / - / - / -", 1), ("a / - / - / -\nb\nc\nd / - / - / -", 1)])
